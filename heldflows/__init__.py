@@ -1,0 +1,1 @@
+"""Heldflows: a balancer that keeps nothing, and agents that hold flows."""
