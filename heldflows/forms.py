@@ -31,7 +31,7 @@ def is_life(value):
 
 def is_address(value):
     """Tells whether the value is the address of a client, a mux, an agent or the controller."""
-    word = _first_word(value)
+    word = first_word(value)
     if word == "controller":
         return len(value) == 1
     if word == "client":
@@ -45,7 +45,7 @@ def is_address(value):
 
 def is_packet(value):
     """Tells whether the value is a packet."""
-    word = _first_word(value)
+    word = first_word(value)
     if word == "open":
         return len(value) == 2 and is_flow(value[1])
     if word in ("hello", "gone", "no"):
@@ -66,6 +66,13 @@ def bucket_of(flow):
     return (5 * number + 7 * client) % BUCKETS
 
 
+def first_word(value):
+    """Returns the string that a tuple begins with, or None for all other values."""
+    if isinstance(value, tuple) and len(value) > 0 and isinstance(value[0], str):
+        return value[0]
+    return None
+
+
 def _is_tuple(value, many):
     return isinstance(value, tuple) and len(value) == many
 
@@ -76,12 +83,6 @@ def _is_below(value, many):
 
 def _is_ordinal(value):
     return is_integer(value, 1, MOST_COUNT)
-
-
-def _first_word(value):
-    if isinstance(value, tuple) and len(value) > 0 and isinstance(value[0], str):
-        return value[0]
-    return None
 
 
 def _is_segment(parts):
