@@ -4,15 +4,18 @@ from heldflows.limits import MOST_DATA, WINDOW
 
 
 class End:
-    """What one side keeps of both streams: its own one, and that of the other side."""
+    """What one side keeps of both streams.
+
+    Of its own stream: the number of bytes that are known to be taken, the bytes behind them, whether it is closed,
+    and whether its end is known to be taken. Of the other one: the number of bytes that are taken, whether its end
+    is taken, the bytes that lie ahead, by their offsets, and the offset behind the last byte, or None.
+    """
 
     def __init__(self):
-        # Of its own stream: what is known to be taken, what is not, and whether this is all.
         self._base = 0
         self._pending = []
         self._closed = 0
         self._given = 0
-        # Of the other stream: how much is taken, what is kept ahead of that, and where it ends.
         self._got = 0
         self._ended = 0
         self._ahead = {}

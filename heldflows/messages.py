@@ -4,7 +4,7 @@ from heldflows.forms import bucket_of, first_word, goes_up, is_birth, is_flow, i
 from heldflows.limits import BUCKETS, MOST_COUNT, MOST_HOPS
 from heldflows.wire import can_be_written
 
-# What stands behind the first word of a message; `wrap` is missing, since its bucket depends on its packet.
+# The parts behind the first word. `wrap` is not among them, since its bucket depends on its packet.
 TO_AGENT = {
     "grant": ("birth or none", "birth", "bucket", "count", "directory"),
     "granted": ("birth", "birth", "bucket", "count"),
@@ -31,7 +31,6 @@ TO_MUX = {
     "table": ("table",),
 }
 
-# What each row of a part stands for that is a tuple of rows.
 ROWS = {
     "table": ("bucket", "count", "birth"),
     "directory": ("flow", "life", "count", "birth"),

@@ -3,6 +3,7 @@
 import random
 import unittest
 
+from answers import answers_to
 from heldflows import held
 from heldflows.ends import End
 from heldflows.held import Held, held_of
@@ -19,16 +20,6 @@ def up(offset, data, last=0, taken=0):
 
 def down(offset, data, last=0, taken=0):
     return ("down", FLOW, LIFE, offset, data, last, taken)
-
-
-def answers_to(data, flow=FLOW):
-    """Returns what point 300 says that the app of the flow answers."""
-    state = (37 * flow[0] + 11 * flow[1] + 5) % 256
-    answers = ()
-    for byte in data:
-        answers += ((byte + state) % 256,)
-        state = (5 * state + byte + 1) % 256
-    return answers
 
 
 class HeldCase(unittest.TestCase):
@@ -56,7 +47,7 @@ class NewTest(HeldCase):
             self.assertEqual(held_flow.take(("open", flow)), [("hello", flow, life)])
             self.assertEqual(held_flow.tick(), [("hello", flow, life), ("down", flow, life, 0, (), 0, 0)])
             held_flow.take(("up", flow, life, 0, (9, 8), 0, 0))
-            self.assertEqual(held_flow.tick(), [("down", flow, life, 0, answers_to((9, 8), flow), 0, 2)])
+            self.assertEqual(held_flow.tick(), [("down", flow, life, 0, answers_to(flow, (9, 8)), 0, 2)])
 
     def test_kinds_of_values(self):
         held_flow = Held(FLOW, LIFE)
@@ -116,7 +107,7 @@ class TakeTest(HeldCase):
         self.assertEqual(held_flow.tick(), [down(0, ())])
         self.takes(held_flow, up(0, data[:8]))
         self.assertEqual(held_flow.eaten(), data)
-        answers = answers_to(data)
+        answers = answers_to(FLOW, data)
         self.assertEqual(held_flow.tick(), [down(0, answers[:8], 0, 16), down(8, answers[8:], 0, 16)])
 
     def test_what_the_client_has_taken(self):
@@ -183,7 +174,7 @@ class TickTest(HeldCase):
         held_flow = Held(FLOW, LIFE)
         for at in range(0, 40, 8):
             self.takes(held_flow, up(at, data[at:at + 8], int(at == 32)))
-        answers = answers_to(data)
+        answers = answers_to(FLOW, data)
         first = [down(at, answers[at:at + 8], 0, 41) for at in (0, 8, 16, 24)]
         self.assertEqual(held_flow.tick(), first)
         self.takes(held_flow, up(40, (), 1, 9))
@@ -310,7 +301,7 @@ class StreamsTest(HeldCase):
                     if packet[0] == "down":
                         read += client.take(*packet[3:])
                 eaten = held_flow.eaten()
-                answers = answers_to(eaten, flow)
+                answers = answers_to(flow, eaten)
                 base, pending, closed = held_flow.picture()[2][:3]
                 self.assertEqual(eaten, written[:len(eaten)])
                 self.assertEqual((base + len(pending), pending), (len(answers), answers[base:]))
