@@ -95,9 +95,8 @@ class Controller:
 
     def _forget_former(self, agent):
         self._numbers.pop(agent, None)
-        for order, giver, _, receiver in self.pushes():
-            if agent in (giver[0], receiver[0]):
-                del self._pushes[order]
+        left = [push for push in self.pushes() if agent not in (push[1][0], push[3][0])]
+        self._pushes = {push[0]: push for push in left}
 
     def _take_report(self, birth, number, version, rows):
         bucket = self._buckets[number]
